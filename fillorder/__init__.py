@@ -1,0 +1,1 @@
+"""Envelopes of a budget that are filled in order."""
