@@ -12,6 +12,17 @@ from fillorder.errors import InvalidAmount, NotEnough
 NOT_AMOUNTS = NOT_INTEGERS + FAR_OUT + (LARGEST_AMOUNT + 1,)
 
 
+class TestNotAmounts(unittest.TestCase):
+    def test_put_and_take(self):
+        for kind in CLASSES:
+            for level in (0, 20, 50):
+                for value in NOT_AMOUNTS:
+                    with self.subTest(kind=kind.__name__, level=level, value=value):
+                        food = kind("food", 50, level)
+                        assert_refused(self, InvalidAmount, food, food.put, value)
+                        assert_refused(self, InvalidAmount, food, food.take, value)
+
+
 class TestPut(unittest.TestCase):
     def test_example_of_point_6(self):
         food = Envelope("food", 50, 20)
@@ -43,14 +54,6 @@ class TestPut(unittest.TestCase):
             food = kind("food", 9)
             self.assertEqual([food.put(4), food.put(4), food.put(4), food.put(4)], [0, 0, 3, 4])
             self.assertEqual(food.level, 9)
-
-    def test_not_amounts(self):
-        for kind in CLASSES:
-            for level in (0, 20, 50):
-                for value in NOT_AMOUNTS:
-                    with self.subTest(kind=kind.__name__, level=level, value=value):
-                        food = kind("food", 50, level)
-                        assert_refused(self, InvalidAmount, food, food.put, value)
 
     def test_a_refused_put_reaches_nothing(self):
         for kind in GOALS:
@@ -96,14 +99,6 @@ class TestTake(unittest.TestCase):
                 self.assertIsNone(envelope.take(free))
                 self.assertEqual([envelope.level, envelope.free()], [level - free, 0])
                 assert_refused(self, NotEnough, envelope, envelope.take, 1)
-
-    def test_not_amounts(self):
-        for kind in CLASSES:
-            for level in (0, 20, 50):
-                for value in NOT_AMOUNTS:
-                    with self.subTest(kind=kind.__name__, level=level, value=value):
-                        food = kind("food", 50, level)
-                        assert_refused(self, InvalidAmount, food, food.take, value)
 
     def test_put_and_take_in_turn(self):
         food = Envelope("food", 50, 20)
