@@ -97,15 +97,27 @@ class Envelope:
 
     def take(self, amount):
         """Subtract the amount, which is at most free()."""
+        self.check_take(amount)
+        self.held -= amount
+
+    def check_take(self, amount):
+        """Raise the errors of take, and take nothing."""
         check_amount(amount)
         limit = self.free()
         if amount > limit:
             raise NotEnough(f"only {limit} can be taken")
-        self.held -= amount
 
     def text(self):
         """Return the text NAME:LEVEL/CAP."""
         return f"{self.name}:{self.level}/{self.cap}"
+
+    def saved(self):
+        """Return all that put and take may change, for restore()."""
+        return (self.held,)
+
+    def restore(self, state):
+        """Bring back what saved() has returned."""
+        self.held = state[0]
 
 
 class Goal(Envelope):
@@ -135,6 +147,15 @@ class Goal(Envelope):
     def free(self):
         """Return the largest amount that can be taken."""
         return self.level if self.reached else 0
+
+    def saved(self):
+        """Return all that put and take may change, for restore()."""
+        return (self.held, self.done)
+
+    def restore(self, state):
+        """Bring back what saved() has returned."""
+        self.held = state[0]
+        self.done = state[1]
 
 
 class Reserve(Envelope):

@@ -4,7 +4,7 @@ import inspect
 import unittest
 
 from samples import (
-    CLASSES, FAR_OUT, FORTY_DIGITS, LARGEST, NAMES, NOT_INTEGERS, NOT_NAMES, RESERVES, assert_no_envelope,
+    CLASSES, FAR_OUT, FORTY_DIGITS, LARGEST, NAMES, NOT_INTEGERS, NOT_NAMES, RESERVES, assert_raises,
 )
 
 from fillorder import envelopes
@@ -94,7 +94,7 @@ class TestCreate(unittest.TestCase):
         for kind in CLASSES:
             for name in NOT_NAMES:
                 with self.subTest(kind=kind.__name__, name=name):
-                    assert_no_envelope(self, InvalidName, kind, name, 50)
+                    assert_raises(self, InvalidName, kind, name, 50)
 
     def test_caps_at_the_bounds(self):
         for kind in CLASSES:
@@ -106,7 +106,7 @@ class TestCreate(unittest.TestCase):
         for kind in CLASSES:
             for cap in NOT_INTEGERS + FAR_OUT + (0, LARGEST + 1):
                 with self.subTest(kind=kind.__name__, cap=cap):
-                    assert_no_envelope(self, InvalidCap, kind, "food", cap)
+                    assert_raises(self, InvalidCap, kind, "food", cap)
 
     def test_levels_at_the_bounds(self):
         for kind in CLASSES:
@@ -121,7 +121,7 @@ class TestCreate(unittest.TestCase):
             for cap in (1, 50, LARGEST):
                 for level in NOT_INTEGERS + FAR_OUT + (cap + 1,):
                     with self.subTest(kind=kind.__name__, cap=cap, level=level):
-                        assert_no_envelope(self, InvalidLevel, kind, "food", cap, level)
+                        assert_raises(self, InvalidLevel, kind, "food", cap, level)
 
     def test_floors_at_the_bounds(self):
         for kind in RESERVES:
@@ -137,7 +137,7 @@ class TestCreate(unittest.TestCase):
             for cap in (1, 50, LARGEST):
                 for floor in NOT_INTEGERS + FAR_OUT + (cap + 1,):
                     with self.subTest(kind=kind.__name__, cap=cap, floor=floor):
-                        assert_no_envelope(self, InvalidFloor, kind, "rent", cap, cap, floor=floor)
+                        assert_raises(self, InvalidFloor, kind, "rent", cap, cap, floor=floor)
 
     def test_floor_only_by_keyword(self):
         for kind in RESERVES:
@@ -150,22 +150,22 @@ class TestFirstError(unittest.TestCase):
         for kind in CLASSES:
             for bad in (True, None, "5", [5], (5,), FORTY_DIGITS, -1):
                 with self.subTest(kind=kind.__name__, bad=bad):
-                    assert_no_envelope(self, InvalidName, kind, "Food", bad, bad)
-                    assert_no_envelope(self, InvalidName, kind, "Food", 50, bad)
-                    assert_no_envelope(self, InvalidName, kind, "Food", bad, 5)
-                    assert_no_envelope(self, InvalidCap, kind, "food", bad, bad)
-                    assert_no_envelope(self, InvalidLevel, kind, "food", 50, bad)
+                    assert_raises(self, InvalidName, kind, "Food", bad, bad)
+                    assert_raises(self, InvalidName, kind, "Food", 50, bad)
+                    assert_raises(self, InvalidName, kind, "Food", bad, 5)
+                    assert_raises(self, InvalidCap, kind, "food", bad, bad)
+                    assert_raises(self, InvalidLevel, kind, "food", 50, bad)
 
     def test_floor_last(self):
         for kind in RESERVES:
             for bad in (True, None, "5", [5], (5,), FORTY_DIGITS, -1):
                 with self.subTest(kind=kind.__name__, bad=bad):
-                    assert_no_envelope(self, InvalidName, kind, "", bad, bad, floor=bad)
-                    assert_no_envelope(self, InvalidName, kind, "", 50, 5, floor=bad)
-                    assert_no_envelope(self, InvalidCap, kind, "rent", bad, bad, floor=bad)
-                    assert_no_envelope(self, InvalidCap, kind, "rent", bad, 5, floor=bad)
-                    assert_no_envelope(self, InvalidLevel, kind, "rent", 50, bad, floor=bad)
-                    assert_no_envelope(self, InvalidFloor, kind, "rent", 50, 5, floor=bad)
+                    assert_raises(self, InvalidName, kind, "", bad, bad, floor=bad)
+                    assert_raises(self, InvalidName, kind, "", 50, 5, floor=bad)
+                    assert_raises(self, InvalidCap, kind, "rent", bad, bad, floor=bad)
+                    assert_raises(self, InvalidCap, kind, "rent", bad, 5, floor=bad)
+                    assert_raises(self, InvalidLevel, kind, "rent", 50, bad, floor=bad)
+                    assert_raises(self, InvalidFloor, kind, "rent", 50, 5, floor=bad)
 
 
 if __name__ == "__main__":

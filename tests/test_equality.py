@@ -2,62 +2,50 @@
 
 import unittest
 
-from samples import CLASSES, GOALS, NEITHER, RESERVES, state
+from samples import CLASSES, GOALS, NEITHER, RESERVES, assert_different_both_ways, assert_equal_both_ways, state
 
 from fillorder.envelopes import Envelope
 
 
 class TestEquality(unittest.TestCase):
-    def assert_equal_both_ways(self, one, other):
-        self.assertIs(one == other, True)
-        self.assertIs(other == one, True)
-        self.assertIs(one != other, False)
-        self.assertIs(other != one, False)
-
-    def assert_different_both_ways(self, one, other):
-        self.assertIs(one == other, False)
-        self.assertIs(other == one, False)
-        self.assertIs(one != other, True)
-        self.assertIs(other != one, True)
-
     def test_same_parts(self):
         for kind in CLASSES:
             for level in (0, 20, 50):
                 with self.subTest(kind=kind.__name__, level=level):
-                    self.assert_equal_both_ways(kind("food", 50, level), kind("food", 50, level))
+                    assert_equal_both_ways(self, kind("food", 50, level), kind("food", 50, level))
 
     def test_itself(self):
         for kind in CLASSES:
             food = kind("food", 50, 20)
-            self.assert_equal_both_ways(food, food)
+            assert_equal_both_ways(self, food, food)
 
     def test_same_floor(self):
         for kind in RESERVES:
-            self.assert_equal_both_ways(kind("rent", 50, 20, floor=5), kind("rent", 50, 20, floor=5))
+            assert_equal_both_ways(self, kind("rent", 50, 20, floor=5), kind("rent", 50, 20, floor=5))
 
     def test_equal_by_another_way(self):
         for kind in CLASSES:
             food = kind("food", 60)
             food.put(20)
             food.cap = 50
-            self.assert_equal_both_ways(food, kind("food", 50, 20))
+            assert_equal_both_ways(self, food, kind("food", 50, 20))
 
     def test_one_part_different(self):
         for kind in CLASSES:
             food = kind("food", 50, 20)
             for other in (kind("fooe", 50, 20), kind("food", 51, 20), kind("food", 50, 21)):
                 with self.subTest(kind=kind.__name__, other=state(other)):
-                    self.assert_different_both_ways(food, other)
+                    assert_different_both_ways(self, food, other)
 
     def test_swapped_parts(self):
         for kind in CLASSES:
-            self.assert_different_both_ways(kind("food", 50, 20), kind("food", 51, 21))
-            self.assert_different_both_ways(kind("food", 50, 20), kind("food", 49, 21))
+            assert_different_both_ways(self, kind("food", 50, 20), kind("food", 51, 21))
+            assert_different_both_ways(self, kind("food", 50, 20), kind("food", 49, 21))
 
     def test_floor_different(self):
         for kind in RESERVES:
-            self.assert_different_both_ways(kind("rent", 50, 20, floor=5), kind("rent", 50, 20, floor=6))
-            self.assert_different_both_ways(kind("rent", 50, 20), kind("rent", 50, 20, floor=50))
+            assert_different_both_ways(self, kind("rent", 50, 20, floor=5), kind("rent", 50, 20, floor=6))
+            assert_different_both_ways(self, kind("rent", 50, 20), kind("rent", 50, 20, floor=50))
 
     def test_reached_different(self):
         for kind in GOALS:
@@ -69,7 +57,7 @@ class TestEquality(unittest.TestCase):
                     other.cap = 50
                     self.assertEqual([reached.level, other.level], [level, level])
                     self.assertEqual([reached.reached, other.reached], [True, False])
-                    self.assert_different_both_ways(reached, other)
+                    assert_different_both_ways(self, reached, other)
 
     def test_reached_same(self):
         for kind in GOALS:
@@ -77,7 +65,7 @@ class TestEquality(unittest.TestCase):
             one.take(30)
             other.take(10)
             other.cap = 50
-            self.assert_equal_both_ways(one, other)
+            assert_equal_both_ways(self, one, other)
 
     def test_different_classes(self):
         for level in (0, 20, 50):
@@ -85,7 +73,7 @@ class TestEquality(unittest.TestCase):
                 for other in CLASSES:
                     if kind != other:
                         with self.subTest(kind=kind.__name__, other=other.__name__, level=level):
-                            self.assert_different_both_ways(kind("food", 50, level), other("food", 50, level))
+                            assert_different_both_ways(self, kind("food", 50, level), other("food", 50, level))
 
     def test_no_envelopes(self):
         others = NEITHER + (0, 1, 20, 50, "food", "food:20/50", ("food", 50, 20), ["food", 50, 20], object(), Envelope)
@@ -93,7 +81,7 @@ class TestEquality(unittest.TestCase):
             food = kind("food", 50, 20)
             for other in others + (state(food), {"food": 50}):
                 with self.subTest(kind=kind.__name__, other=other):
-                    self.assert_different_both_ways(food, other)
+                    assert_different_both_ways(self, food, other)
 
     def test_comparing_changes_nothing(self):
         for kind in CLASSES:

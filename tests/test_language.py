@@ -1,6 +1,7 @@
 """The rules of the language that can be checked by reading the files of the package."""
 
 import ast
+import builtins
 import pathlib
 import re
 import unittest
@@ -59,6 +60,28 @@ class TestLanguage(unittest.TestCase):
     def test_no_name_begins_with_an_underscore(self):
         for node in each_node():
             self.assertFalse(named(node).startswith("_") and named(node) not in SPECIAL, named(node))
+
+    def test_no_generator_expressions(self):
+        # Beside classes with __eq__, any, all, sum and the like take lists.
+        for node in each_node():
+            self.assertNotIsInstance(node, ast.GeneratorExp)
+
+    def test_is_only_with_constants(self):
+        for node in each_node():
+            if isinstance(node, ast.Compare) and isinstance(node.ops[0], (ast.Is, ast.IsNot)):
+                self.assertIn(ast.unparse(node.comparators[0]), ("None", "True", "False"))
+
+    def test_no_builtin_is_bound(self):
+        for node in each_node():
+            bound = isinstance(node, (ast.FunctionDef, ast.ClassDef, ast.arg))
+            if bound or isinstance(getattr(node, "ctx", None), ast.Store):
+                self.assertNotIn(named(node), dir(builtins))
+
+    def test_no_name_is_a_method_and_an_attribute(self):
+        functions = {node.name for node in each_node() if isinstance(node, ast.FunctionDef)}
+        stored = {node.attr for node in each_node()
+                  if isinstance(node, ast.Attribute) and isinstance(node.ctx, ast.Store)}
+        self.assertEqual(functions & stored, set())
 
     def test_no_floats_and_no_division(self):
         for node in each_node():

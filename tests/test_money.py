@@ -2,14 +2,10 @@
 
 import unittest
 
-from samples import (
-    CLASSES, FAR_OUT, GOALS, LARGEST, LARGEST_AMOUNT, NOT_INTEGERS, RESERVES, assert_refused, state,
-)
+from samples import CLASSES, GOALS, LARGEST, LARGEST_AMOUNT, NOT_AMOUNTS, RESERVES, assert_refused, state
 
 from fillorder.envelopes import Envelope, Goal, GoalReserve, Reserve
 from fillorder.errors import InvalidAmount, NotEnough
-
-NOT_AMOUNTS = NOT_INTEGERS + FAR_OUT + (LARGEST_AMOUNT + 1,)
 
 
 class TestNotAmounts(unittest.TestCase):

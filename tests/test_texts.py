@@ -2,7 +2,7 @@
 
 import unittest
 
-from samples import CLASSES, FORTY_DIGITS, GOALS, LARGEST, NAMES, NEITHER, NOT_NAMES, RESERVES
+from samples import CLASSES, FORTY_DIGITS, GOALS, LARGEST, NAMES, NEITHER, NOT_NAMES, RESERVES, assert_raises
 
 from fillorder.envelopes import Envelope, Goal, GoalReserve
 from fillorder.errors import InvalidText
@@ -96,23 +96,18 @@ class TestRead(unittest.TestCase):
         for kind in CLASSES:
             for text in WRONG_TEXTS:
                 with self.subTest(kind=kind.__name__, text=text):
-                    self.assert_refused(kind, text)
+                    assert_raises(self, InvalidText, kind.read, text)
 
     def test_very_long_numbers(self):
         for kind in CLASSES:
-            self.assert_refused(kind, "food:" + "1" * 5000)
+            assert_raises(self, InvalidText, kind.read, "food:" + "1" * 5000)
 
     def test_other_values(self):
         others = NEITHER + (0, 50, FORTY_DIGITS, ["food:50"], ("food:50",), ["food", 50], [["food:50"]])
         for kind in CLASSES:
             for value in others:
                 with self.subTest(kind=kind.__name__, value=value):
-                    self.assert_refused(kind, value)
-
-    def assert_refused(self, kind, value):
-        with self.assertRaises(InvalidText) as caught:
-            kind.read(value)
-        self.assertIs(type(caught.exception), InvalidText)
+                    assert_raises(self, InvalidText, kind.read, value)
 
 
 class TestIsName(unittest.TestCase):
